@@ -1,0 +1,1 @@
+"""Namesalone: moves that may be cut anywhere, told by which places are full."""

@@ -1,0 +1,94 @@
+"""PLANS with as few MOVES as can be."""
+
+from namesalone.errors import NoPlan
+from namesalone.jobs import boxes, chains, free_places, goals_of, rings, staying, thrown
+from namesalone.moves import Floor, after, first_stand, is_plan, left_job
+
+
+def can_be_done(job):
+    """Tell whether there is a PLAN."""
+    return not rings(job) or len(free_places(job)) > 0 or len(thrown(job)) > 0
+
+
+def fewest_moves(job):
+    """Return how many MOVES a fewest PLAN has."""
+    if not can_be_done(job):
+        raise NoPlan()
+    return len(boxes(job)) - len(staying(job)) + len(rings(job))
+
+
+def a_plan(job):
+    """Return a fewest PLAN, readable if some PLAN is."""
+    if not can_be_done(job):
+        raise NoPlan()
+    if not rings(job):
+        return tuple(_chain_moves(job))
+    if free_places(job):
+        return tuple(_plan_around(job))
+    # What is thrown away never comes back, so this MOVE makes no later moment look like the first.
+    away = (thrown(job)[0], None)
+    return (away,) + a_plan(left_job(job, after(job, first_stand(job), away)))
+
+
+def _chain_moves(job):
+    """List the MOVES of the boxes in CHAINS, in each one the last box first."""
+    goals = goals_of(job)
+    return [(box, goals[box]) for row in chains(job) for box in reversed(row)]
+
+
+def _chain_ends(job):
+    """List the MOVES of the last boxes of the CHAINS, which are possible at once."""
+    goals = goals_of(job)
+    return [(row[-1], goals[row[-1]]) for row in chains(job)]
+
+
+def _plan_around(job):
+    """List the MOVES of a fewest PLAN of a JOB with a free place."""
+    aside, between = _aside_and_between(job)
+    ahead, behind = [], []
+    # Each RING is begun inside the one before it, in the place where that one's first box stood. So
+    # all MOVES of a RING can lie between two moments only together with the MOVES in the middle.
+    for ring in rings(job):
+        ahead.append((ring[0], aside))
+        behind = _closing(ring, aside) + behind
+        aside = ring[0]
+    rest = [move for move in _chain_moves(job) if move not in between]
+    return ahead + between + behind + rest
+
+
+def _aside_and_between(job):
+    """Return a free place, and in a list a CHAIN's MOVE that leaves it free; [] if there is none."""
+    for move in _chain_ends(job):
+        for place in free_places(job):
+            if move[1] != place:
+                return place, [move]
+    return free_places(job)[0], []
+
+
+def _closing(ring, aside):
+    """List the MOVES that bring home the boxes of the RING when its first one is at aside."""
+    follow = [(ring[at - 1], ring[at]) for at in range(len(ring))]
+    return follow[:1] + list(reversed(follow[2:])) + [(aside, ring[1])]
+
+
+def is_fewest(job, thing):
+    """Tell whether thing is a fewest PLAN."""
+    return is_plan(job, thing) and len(thing) == fewest_moves(job)
+
+
+def first_moves(job):
+    """Return the set of the MOVES with which some fewest PLAN begins."""
+    if not can_be_done(job):
+        raise NoPlan()
+    asides = [(box, place) for ring in rings(job) for box in ring for place in free_places(job)]
+    return tuple(sorted(_chain_ends(job) + asides))
+
+
+def how_often(job, plan):
+    """Return the set of the pairs of each box and how often it moves in this PLAN."""
+    floor = Floor(job, first_stand(job))
+    counts = {box: 0 for box in boxes(job)}
+    for move in plan:
+        box = floor.make(move)
+        counts[box] += 1
+    return tuple(sorted(counts.items()))

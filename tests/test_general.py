@@ -1,0 +1,201 @@
+"""What holds for every function of the package: [2], [3] and the names of [19]."""
+
+import copy
+import importlib
+import inspect
+import unittest
+
+from namesalone import fewest, jobs, moves
+from namesalone.errors import Impossible, NoName, NoNumber, NoPlan
+from tests.support import (FAR, GREAT_JOBS, JOB, PLAN, SCRAP, STRANGE, STUCK, as_lists, has_list)
+
+STAND = (("a", "a"), ("d", "d"), ("t", "c"))
+BEHIND = (("b", "a"), ("d", "d"), ("t", "c"))
+
+# Each function with a call of it, by the names of the interface, in their order.
+CALLS = [
+    (jobs.is_job, {"thing": JOB}),
+    (jobs.boxes, {"job": JOB}),
+    (jobs.free_places, {"job": JOB}),
+    (jobs.staying, {"job": FAR}),
+    (jobs.thrown, {"job": FAR}),
+    (jobs.goes_to, {"job": JOB, "box": "c"}),
+    (jobs.rings, {"job": JOB}),
+    (jobs.chains, {"job": FAR}),
+    (jobs.back_job, {"job": JOB}),
+    (jobs.then_job, {"job": JOB, "other": (JOB[0], (("b", "a"), ("c", None), ("d", "d")))}),
+    (jobs.renamed_job, {"job": FAR, "pairs": (("p", "z"), ("z", "p"))}),
+    (jobs.with_places, {"job": FAR, "names": ("a", "x")}),
+    (moves.possible, {"job": JOB, "stand": STAND, "move": ("t", "c")}),
+    (moves.first_stand, {"job": JOB}),
+    (moves.is_stand, {"job": JOB, "thing": STAND}),
+    (moves.is_end, {"job": JOB, "stand": STAND}),
+    (moves.all_possible, {"job": SCRAP, "stand": (("p", "p"), ("q", "q"))}),
+    (moves.after, {"job": JOB, "stand": STAND, "move": ("a", "b")}),
+    (moves.move_between, {"job": JOB, "one": STAND, "other": BEHIND}),
+    (moves.where_is, {"job": JOB, "stand": STAND, "box": "c"}),
+    (moves.what_is_at, {"job": JOB, "stand": STAND, "place": "t"}),
+    (moves.sight_of, {"stand": STAND}),
+    (moves.left_job, {"job": JOB, "stand": STAND}),
+    (moves.is_plan, {"job": JOB, "thing": PLAN}),
+    (moves.stand_at, {"job": JOB, "plan": PLAN, "moment": 2}),
+    (moves.sights, {"job": JOB, "plan": PLAN}),
+    (fewest.can_be_done, {"job": JOB}),
+    (fewest.fewest_moves, {"job": JOB}),
+    (fewest.a_plan, {"job": JOB}),
+    (fewest.is_fewest, {"job": JOB, "thing": PLAN}),
+    (fewest.first_moves, {"job": JOB}),
+    (fewest.how_often, {"job": JOB, "plan": PLAN}),
+]
+
+# Calls that raise, with the error and what it keeps.
+FAILURES = [
+    (jobs.goes_to, {"job": JOB, "box": "b"}, NoName, {"name": "b"}),
+    (moves.after, {"job": JOB, "stand": STAND, "move": ("a", "t")}, Impossible, {"move": ("a", "t")}),
+    (moves.where_is, {"job": JOB, "stand": STAND, "box": "t"}, NoName, {"name": "t"}),
+    (moves.what_is_at, {"job": JOB, "stand": STAND, "place": "x"}, NoName, {"name": "x"}),
+    (moves.stand_at, {"job": JOB, "plan": PLAN, "moment": -1}, NoNumber, {"number": -1}),
+    (moves.stand_at, {"job": JOB, "plan": PLAN[1:], "moment": 0}, Impossible, {"move": ("d", "c")}),
+    (moves.sights, {"job": JOB, "plan": PLAN + PLAN}, Impossible, {"move": ("a", "b")}),
+    (fewest.fewest_moves, {"job": STUCK}, NoPlan, {}),
+    (fewest.a_plan, {"job": STUCK}, NoPlan, {}),
+    (fewest.first_moves, {"job": STUCK}, NoPlan, {}),
+]
+
+LISTS = ("all_possible",)
+
+
+def listed(values):
+    """The arguments with lists for tuples, but for a thing, which is taken as it is."""
+    return {name: value if name == "thing" else as_lists(value) for name, value in values.items()}
+
+
+def half_listed(values):
+    """The arguments, each with a list at its top alone."""
+    return {name: list(value) if isinstance(value, tuple) and name != "thing" else value
+            for name, value in values.items()}
+
+
+class Interface(unittest.TestCase):
+    def test_each_name_is_defined_in_its_own_file(self):
+        wanted = {"jobs": [], "moves": [], "fewest": []}
+        for own, _ in CALLS:
+            wanted[own.__module__.split(".")[1]].append(own.__name__)
+        self.assertEqual([len(wanted[file]) for file in ("jobs", "moves", "fewest")], [12, 14, 6])
+        for file, names in wanted.items():
+            module = importlib.import_module("namesalone." + file)
+            for name in names:
+                self.assertTrue(inspect.isfunction(getattr(module, name)), name)
+
+    def test_arguments_have_the_names_of_the_interface(self):
+        for own, values in CALLS:
+            with self.subTest(own.__name__):
+                self.assertEqual(list(inspect.signature(own).parameters), list(values))
+
+
+class EveryFunction(unittest.TestCase):
+    def test_by_position_by_name_and_again(self):
+        for own, values in CALLS:
+            with self.subTest(own.__name__):
+                first = own(*values.values())
+                self.assertEqual(own(**values), first)
+                self.assertEqual(own(**dict(reversed(values.items()))), first)
+                self.assertEqual(own(*values.values()), first)
+
+    def test_lists_for_tuples_give_the_same_made_of_tuples(self):
+        for own, values in CALLS:
+            for changed in (listed(values), half_listed(values)):
+                with self.subTest(own.__name__):
+                    out = own(**changed)
+                    self.assertEqual(repr(out), repr(own(**values)))
+                    self.assertFalse(has_list(tuple(out) if own.__name__ in LISTS else out))
+
+    def test_each_list_stands_for_itself_alone(self):
+        # One argument in lists, the others in tuples: none is compared with another as it came.
+        for own, values in CALLS:
+            for name in values:
+                with self.subTest(own.__name__, name=name):
+                    changed = {**values, name: listed(values)[name]}
+                    self.assertEqual(repr(own(**changed)), repr(own(**values)))
+
+    def test_arguments_stay_as_they_were(self):
+        for own, values in CALLS:
+            changed = listed(values)
+            kept = copy.deepcopy(changed)
+            own(**changed)
+            with self.subTest(own.__name__):
+                self.assertEqual(changed, kept)
+
+    def test_a_returned_list_is_new_and_belongs_to_the_caller(self):
+        for own, values in CALLS:
+            if own.__name__ in LISTS:
+                first = own(**values)
+                self.assertIsInstance(first, list)
+                kept = list(first)
+                first.clear()
+                self.assertEqual(own(**values), kept)
+
+    def test_errors_keep_tuples_and_come_again(self):
+        for own, values, error, kept in FAILURES:
+            for changed in (values, listed(values), half_listed(values), values):
+                with self.subTest(own.__name__):
+                    before = copy.deepcopy(changed)
+                    with self.assertRaises(error) as held:
+                        own(**changed)
+                    self.assertIs(held.exception.__class__, error)
+                    self.assertEqual(repr(vars(held.exception)), repr(kept))
+                    self.assertEqual(changed, before)
+
+    def test_results_may_be_passed_in_again(self):
+        for job in GREAT_JOBS:
+            more = jobs.with_places(job, ("x", "y"))
+            self.assertTrue(jobs.is_job(more))
+            self.assertEqual(jobs.free_places(more), jobs.free_places(job) + ("x", "y"))
+            self.assertTrue(fewest.is_fewest(more, fewest.a_plan(more)))
+
+
+class AnyThing(unittest.TestCase):
+    def test_strange_things_give_false_and_raise_nothing(self):
+        deep = "a"
+        for _ in range(12):
+            deep = (deep,)
+        for thing in STRANGE + (deep, [deep], ((), True), (True, ()), ([], []), ((("a", "b"),), ())):
+            with self.subTest(thing=thing):
+                self.assertIs(moves.is_stand(JOB, thing), False)
+                self.assertIs(moves.is_plan(JOB, thing), False)
+                self.assertIs(fewest.is_fewest(JOB, thing), False)
+                self.assertIs(jobs.is_job(thing), False)
+
+    def test_a_list_is_no_tuple_at_any_depth(self):
+        for own, values in CALLS:
+            if "thing" not in values:
+                continue
+            self.assertIs(own(**values), True)
+            others = {name: value for name, value in values.items() if name != "thing"}
+            for changed in with_one_list(values["thing"]):
+                with self.subTest(own.__name__, changed=changed):
+                    self.assertIs(own(**others, thing=changed), False)
+
+    def test_things_beyond_the_bounds(self):
+        names = tuple(one + two + three for one in "abcdefghijklmnop" for two in "abcdefghij" for three in "xyz")
+        great = (names, tuple((name, name) for name in names[1:]))
+        self.assertIs(jobs.is_job(great), True)
+        self.assertIs(jobs.is_job((names, great[1] + (("zzz", "zzz"),))), False)
+        self.assertIs(moves.is_stand(great, moves.first_stand(great)), True)
+        turn = (("c", "t"), ("t", "c")) * 500
+        self.assertIs(moves.is_plan(JOB, turn + PLAN), True)
+        self.assertIs(moves.is_plan(JOB, turn), False)
+        self.assertIs(fewest.is_fewest(JOB, turn + PLAN), False)
+
+
+def with_one_list(value):
+    """The value with one of its tuples, at whatever depth, as a list."""
+    if isinstance(value, tuple):
+        yield list(value)
+        for at, item in enumerate(value):
+            for other in with_one_list(item):
+                yield value[:at] + (other,) + value[at + 1:]
+
+
+if __name__ == "__main__":
+    unittest.main()
