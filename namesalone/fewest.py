@@ -2,7 +2,7 @@
 
 from namesalone.errors import NoPlan
 from namesalone.jobs import boxes, chains, free_places, goals_of, rings, staying, thrown
-from namesalone.moves import Floor, after, first_stand, is_plan, left_job
+from namesalone.moves import after, boxes_moved, first_stand, is_plan, left_job
 
 
 def can_be_done(job):
@@ -19,15 +19,26 @@ def fewest_moves(job):
 
 def a_plan(job):
     """Return a fewest PLAN, readable if some PLAN is."""
+    ahead, between, behind = plan_in_parts(job)
+    return tuple(ahead + between + behind)
+
+
+def plan_in_parts(job):
+    """List in three parts the MOVES of a fewest PLAN, readable if some PLAN is.
+
+    If there are RINGS, the first part opens all of them; if moreover some PLAN is readable, the second
+    part is the one MOVE that shows, ever after, that this has been done.
+    """
     if not can_be_done(job):
         raise NoPlan()
     if not rings(job):
-        return tuple(_chain_moves(job))
+        return [], [], _chain_moves(job)
     if free_places(job):
-        return tuple(_plan_around(job))
+        return _parts_around(job)
     # What is thrown away never comes back, so this MOVE makes no later moment look like the first.
     away = (thrown(job)[0], None)
-    return (away,) + a_plan(left_job(job, after(job, first_stand(job), away)))
+    ahead, between, behind = plan_in_parts(left_job(job, after(job, first_stand(job), away)))
+    return [away] + ahead, between, behind
 
 
 def _chain_moves(job):
@@ -42,8 +53,8 @@ def _chain_ends(job):
     return [(row[-1], goals[row[-1]]) for row in chains(job)]
 
 
-def _plan_around(job):
-    """List the MOVES of a fewest PLAN of a JOB with a free place."""
+def _parts_around(job):
+    """List in three parts the MOVES of a fewest PLAN of a JOB with a free place."""
     aside, between = _aside_and_between(job)
     ahead, behind = [], []
     # Each RING is begun inside the one before it, in the place where that one's first box stood. So
@@ -53,7 +64,7 @@ def _plan_around(job):
         behind = _closing(ring, aside) + behind
         aside = ring[0]
     rest = [move for move in _chain_moves(job) if move not in between]
-    return ahead + between + behind + rest
+    return ahead, between, behind + rest
 
 
 def _aside_and_between(job):
@@ -86,9 +97,7 @@ def first_moves(job):
 
 def how_often(job, plan):
     """Return the set of the pairs of each box and how often it moves in this PLAN."""
-    floor = Floor(job, first_stand(job))
     counts = {box: 0 for box in boxes(job)}
-    for move in plan:
-        box = floor.make(move)
+    for box in boxes_moved(job, plan):
         counts[box] += 1
     return tuple(sorted(counts.items()))

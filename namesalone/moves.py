@@ -144,6 +144,12 @@ def stands_along(job, plan):
     return stands
 
 
+def boxes_moved(job, plan):
+    """Return the list of the boxes that the MOVES of plan move, one for each MOVE."""
+    floor = Floor(job, first_stand(job))
+    return [floor.make(move) for move in plan]
+
+
 def stand_at(job, plan, moment):
     """Return the STAND behind so many MOVES of plan."""
     stands = stands_along(job, plan)

@@ -54,6 +54,16 @@ def job_of(rings, chains, stays, free, names=NAMES40):
     return tuple(sorted(used)), tuple(sorted(goal))
 
 
+# JOBS of five and six places: what small_jobs does not hold, a RING beside a CHAIN and two free places.
+WIDER_JOBS = tuple(job_of(*row, names="abcdefgh"[:6]) for row in (
+    ((2,), ((1, False),), 0, 1), ((3,), ((1, False),), 0, 1), ((2,), ((2, False),), 0, 1),
+    ((2, 2), ((1, True),), 0, 1), ((2,), ((1, True), (1, True)), 0, 0), ((2,), ((2, True), (1, True)), 0, 0),
+    ((2, 2), ((1, True), (1, True)), 0, 0), ((2,), ((1, True),), 1, 1), ((2,), ((2, True),), 0, 1),
+    ((2, 2), ((1, False),), 0, 0), ((2, 2), ((1, True),), 0, 0), ((2, 2), (), 0, 1), ((3,), ((2, True),), 0, 0),
+    ((2, 3), (), 0, 1), ((4,), (), 0, 1), ((2,), ((1, False), (1, True)), 0, 0), ((2, 2), (), 1, 0),
+    ((), ((2, False), (3, True)), 0, 0), ((), ((2, True), (2, True)), 1, 0), ((3,), ((1, True), (1, True)), 0, 0),
+))
+
 # JOBS of 40 places: RINGS and CHAINS of many kinds, with one free place, with more, with none.
 GREAT_JOBS = (
     job_of((40,), (), 0, 0),
@@ -140,6 +150,9 @@ def some_plan_is_readable(job, stand=None, seen=()):
     if stand == end_of(job):
         return True
     seen += (full_at(stand),)
+    # All ways end with this SIGHT: it spares a search through a great many of them.
+    if full_at(end_of(job)) in seen:
+        return False
     return any(full_at(other) not in seen and some_plan_is_readable(job, other, seen)
                for _, other in moves_from(job, stand))
 
@@ -156,8 +169,87 @@ def stands_behind(job, plan):
 
 
 def shows_no_sight_twice(job, plan):
-    shown = [full_at(stand) for stand in stands_behind(job, plan)]
+    shown = sights_shown(job, plan)
     return len(set(shown)) == len(shown)
+
+
+def fewest_plans(job):
+    """All fewest PLANS, ascending, found by a search through all STANDS."""
+    far = far_from_end(job)
+    if start_of(job) not in far:
+        return []
+    rows = [((), start_of(job))]
+    for left in reversed(range(far[start_of(job)])):
+        rows = [(plan + (move,), other) for plan, stand in rows for move, other in moves_from(job, stand)
+                if far.get(other) == left]
+    return sorted([plan for plan, _ in rows])
+
+
+def rings_of(job):
+    """The RINGS, by the words of the document."""
+    goal, found = dict(job[1]), []
+    for box in sorted(goal):
+        row = [box]
+        while goal[row[-1]] in goal and goal[row[-1]] not in row:
+            row.append(goal[row[-1]])
+        if goal[row[-1]] == box and len(row) > 1 and box == min(row):
+            found.append(tuple(row))
+    return found
+
+
+def ways_on(job, full, whole):
+    """The MOVES by which a fewest PLAN can go on: a box goes where it goes, or the first one of a RING aside."""
+    goal, free = dict(job[1]), [place for place in job[0] if place not in full]
+    home = [(place, goal[box]) for place, box in full.items() if goal[box] is None or goal[box] in free]
+    return sorted(home + [(box, place) for row in whole for box in row for place in free])
+
+
+def gone_on(full, whole, move):
+    """What is full behind the MOVE, and the RINGS that are still whole."""
+    left = {place: box for place, box in full.items() if place != move[0]}
+    if move[1] is not None:
+        left[move[1]] = full[move[0]]
+    return left, [row for row in whole if move[0] not in row]
+
+
+def plans_by_words(job, full=None, whole=None):
+    """All fewest PLANS of a JOB that has one, ascending: what the guarantee of [6] says that they are."""
+    full = dict(start_of(job)) if full is None else full
+    whole = rings_of(job) if whole is None else whole
+    ways = ways_on(job, full, whole)
+    if not ways:
+        return [()]
+    return [(move,) + rest for move in ways for rest in plans_by_words(job, *gone_on(full, whole, move))]
+
+
+def drawn_plan(job, draw):
+    """One fewest PLAN of a JOB that has one, of however many places, drawn MOVE by MOVE."""
+    full, whole, plan = dict(start_of(job)), rings_of(job), []
+    ways = ways_on(job, full, whole)
+    while ways:
+        plan.append(draw.choice(ways))
+        full, whole = gone_on(full, whole, plan[-1])
+        ways = ways_on(job, full, whole)
+    return tuple(plan)
+
+
+def walked_plan(job, draw, many):
+    """A PLAN of a small JOB that begins with so many MOVES drawn at will."""
+    far, stand, plan = far_from_end(job), start_of(job), []
+    for _ in range(many):
+        ways = [way for way in moves_from(job, stand) if way[1] in far]
+        if ways:
+            move, stand = draw.choice(ways)
+            plan.append(move)
+    while far[stand]:
+        move, stand = draw.choice([way for way in moves_from(job, stand) if far.get(way[1]) == far[stand] - 1])
+        plan.append(move)
+    return tuple(plan)
+
+
+def sights_shown(job, plan):
+    """The SIGHTS at all moments of a PLAN."""
+    return [full_at(stand) for stand in stands_behind(job, plan)]
 
 
 def as_lists(value):

@@ -7,20 +7,9 @@ from namesalone.errors import NoPlan
 from namesalone.fewest import a_plan, can_be_done, fewest_moves, first_moves, how_often, is_fewest
 from namesalone.jobs import chains, free_places, rings, thrown
 from namesalone.moves import is_plan
-from tests.support import (EMPTY, FAR, GREAT_JOBS, JOB, LONE, PLAN, SCRAP, STUCK, bent, end_of, far_from_end, job_of,
-                           moves_from, shows_no_sight_twice, small_jobs, some_plan_is_readable, stands_behind,
-                           start_of)
-
-# JOBS of five and six places: what small_jobs does not hold, a RING beside a CHAIN and two free places.
-WIDER_JOBS = tuple(job_of(*row, names="abcdefgh"[:6]) for row in (
-    ((2,), ((1, False),), 0, 1), ((3,), ((1, False),), 0, 1), ((2,), ((2, False),), 0, 1),
-    ((2, 2), ((1, True),), 0, 1), ((2,), ((1, True), (1, True)), 0, 0), ((2,), ((2, True), (1, True)), 0, 0),
-    ((2, 2), ((1, True), (1, True)), 0, 0), ((2,), ((1, True),), 1, 1), ((2,), ((2, True),), 0, 1),
-    ((2, 2), ((1, False),), 0, 0), ((2, 2), ((1, True),), 0, 0), ((2, 2), (), 0, 1), ((3,), ((2, True),), 0, 0),
-    ((2, 3), (), 0, 1), ((4,), (), 0, 1), ((2,), ((1, False), (1, True)), 0, 0), ((2, 2), (), 1, 0),
-    ((), ((2, False), (3, True)), 0, 0), ((), ((2, True), (2, True)), 1, 0), ((3,), ((1, True), (1, True)), 0, 0),
-))
-
+from tests.support import (EMPTY, FAR, GREAT_JOBS, JOB, LONE, PLAN, SCRAP, STUCK, WIDER_JOBS, bent, end_of,
+                           far_from_end, job_of, moves_from, shows_no_sight_twice, small_jobs, some_plan_is_readable,
+                           stands_behind, start_of)
 
 def a_rule_can_be(job):
     """The guarantee: whether some PLAN is readable."""

@@ -5,12 +5,18 @@ import importlib
 import inspect
 import unittest
 
-from namesalone import fewest, jobs, moves
-from namesalone.errors import Impossible, NoName, NoNumber, NoPlan
+from namesalone import alike, counts, fences, fewest, jobs, moves, rules
+from namesalone.errors import Impossible, NoName, NoNumber, NoPlan, NoRule
 from tests.support import (FAR, GREAT_JOBS, JOB, PLAN, SCRAP, STRANGE, STUCK, as_lists, has_list)
 
 STAND = (("a", "a"), ("d", "d"), ("t", "c"))
 BEHIND = (("b", "a"), ("d", "d"), ("t", "c"))
+# A PLAN with two moments alike, a RULE that tells more SIGHTS than are seen, and FENCED MOVES.
+BAD = (("c", "t"), ("d", "c"), ("t", "d"), ("a", "b"))
+RULE = ((("a", "c", "d"), ("c", "t")), (("a", "d", "t"), ("a", "b")), (("b",), ("b", None)),
+        (("b", "c", "t"), ("t", "d")), (("b", "d", "t"), ("d", "c")))
+STEPS = (("c", "t"), "|", ("a", "b"), "|", ("d", "c"), ("t", "d"))
+LESS = STEPS[:3] + STEPS[4:]
 
 # Each function with a call of it, by the names of the interface, in their order.
 CALLS = [
@@ -46,6 +52,42 @@ CALLS = [
     (fewest.is_fewest, {"job": JOB, "thing": PLAN}),
     (fewest.first_moves, {"job": JOB}),
     (fewest.how_often, {"job": JOB, "plan": PLAN}),
+    (alike.is_alike, {"job": JOB, "plan": BAD, "one": 3, "other": 0}),
+    (alike.alike_pairs, {"job": JOB, "plan": BAD}),
+    (alike.is_readable, {"job": JOB, "plan": BAD}),
+    (alike.first_alike, {"job": JOB, "plan": BAD}),
+    (alike.moments_of, {"job": JOB, "plan": BAD, "sight": ("a", "c", "d")}),
+    (alike.how_many_sights, {"job": JOB, "plan": BAD}),
+    (alike.moves_of, {"job": JOB, "plan": PLAN, "ring": ("c", "d")}),
+    (alike.open_rings, {"job": JOB, "plan": PLAN, "moment": 2}),
+    (alike.rings_between, {"job": JOB, "plan": BAD, "one": 0, "other": 3}),
+    (alike.first_whole, {"job": JOB, "plan": BAD}),
+    (rules.has_rule, {"job": JOB}),
+    (rules.why_none, {"job": STUCK}),
+    (rules.places_needed, {"job": (JOB[0][:4], JOB[1])}),
+    (rules.a_rule, {"job": JOB}),
+    (rules.rule_of, {"job": JOB, "plan": PLAN}),
+    (rules.is_rule, {"job": JOB, "thing": RULE}),
+    (rules.move_at, {"rule": RULE, "sight": ("a", "d", "t")}),
+    (rules.followed, {"job": JOB, "rule": RULE}),
+    (rules.seen_at, {"job": JOB, "rule": RULE, "sight": ("b", "c", "d")}),
+    (rules.unseen, {"job": JOB, "rule": RULE}),
+    (counts.how_many_plans, {"job": JOB}),
+    (counts.nth_plan, {"job": JOB, "number": 7}),
+    (counts.number_of_plan, {"job": JOB, "plan": BAD}),
+    (counts.how_many_readable, {"job": JOB}),
+    (counts.nth_readable, {"job": JOB, "number": 3}),
+    (counts.number_of_readable, {"job": JOB, "plan": PLAN}),
+    (counts.readable_begin_moves, {"job": JOB}),
+    (fences.is_fenced, {"job": JOB, "thing": STEPS}),
+    (fences.moves_in, {"steps": STEPS}),
+    (fences.lasting, {"job": JOB, "steps": LESS}),
+    (fences.stands_by, {"job": JOB, "steps": LESS, "sight": ("a", "c", "d")}),
+    (fences.told_alike, {"job": JOB, "steps": LESS}),
+    (fences.is_tellable, {"job": JOB, "steps": STEPS}),
+    (fences.fewest_fences, {"job": JOB}),
+    (fences.a_fenced, {"job": JOB}),
+    (fences.fences_for, {"job": JOB, "plan": PLAN}),
 ]
 
 # Calls that raise, with the error and what it keeps.
@@ -60,9 +102,18 @@ FAILURES = [
     (fewest.fewest_moves, {"job": STUCK}, NoPlan, {}),
     (fewest.a_plan, {"job": STUCK}, NoPlan, {}),
     (fewest.first_moves, {"job": STUCK}, NoPlan, {}),
+    (alike.is_alike, {"job": JOB, "plan": BAD, "one": -1, "other": 5}, NoNumber, {"number": -1}),
+    (alike.open_rings, {"job": JOB, "plan": BAD, "moment": 5}, NoNumber, {"number": 5}),
+    (alike.rings_between, {"job": JOB, "plan": BAD, "one": 0, "other": 10 ** 40}, NoNumber, {"number": 10 ** 40}),
+    (rules.a_rule, {"job": STUCK}, NoRule, {}),
+    (rules.rule_of, {"job": JOB, "plan": BAD}, NoRule, {}),
+    (counts.nth_plan, {"job": JOB, "number": 12}, NoNumber, {"number": 12}),
+    (counts.nth_readable, {"job": JOB, "number": -10 ** 40}, NoNumber, {"number": -10 ** 40}),
+    (fences.a_fenced, {"job": STUCK}, NoRule, {}),
 ]
 
-LISTS = ("all_possible",)
+LISTS = ("all_possible", "alike_pairs", "unseen", "lasting", "stands_by")
+FILES = {"jobs": 12, "moves": 14, "fewest": 6, "alike": 10, "rules": 10, "counts": 7, "fences": 9}
 
 
 def listed(values):
@@ -78,10 +129,10 @@ def half_listed(values):
 
 class Interface(unittest.TestCase):
     def test_each_name_is_defined_in_its_own_file(self):
-        wanted = {"jobs": [], "moves": [], "fewest": []}
+        wanted = {file: [] for file in FILES}
         for own, _ in CALLS:
             wanted[own.__module__.split(".")[1]].append(own.__name__)
-        self.assertEqual([len(wanted[file]) for file in ("jobs", "moves", "fewest")], [12, 14, 6])
+        self.assertEqual({file: len(names) for file, names in wanted.items()}, FILES)
         for file, names in wanted.items():
             module = importlib.import_module("namesalone." + file)
             for name in names:
@@ -152,6 +203,11 @@ class EveryFunction(unittest.TestCase):
             self.assertTrue(jobs.is_job(more))
             self.assertEqual(jobs.free_places(more), jobs.free_places(job) + ("x", "y"))
             self.assertTrue(fewest.is_fewest(more, fewest.a_plan(more)))
+            if rules.has_rule(more):
+                rule = rules.a_rule(more)
+                self.assertTrue(rules.is_rule(more, rule))
+                self.assertEqual(rules.rule_of(more, rules.followed(more, rule)[0]), rule)
+                self.assertTrue(fewest.is_fewest(more, fences.moves_in(fences.a_fenced(more))))
 
 
 class AnyThing(unittest.TestCase):
@@ -164,6 +220,8 @@ class AnyThing(unittest.TestCase):
                 self.assertIs(moves.is_stand(JOB, thing), False)
                 self.assertIs(moves.is_plan(JOB, thing), False)
                 self.assertIs(fewest.is_fewest(JOB, thing), False)
+                self.assertIs(rules.is_rule(JOB, thing), False)
+                self.assertIs(fences.is_fenced(JOB, thing), False)
                 self.assertIs(jobs.is_job(thing), False)
 
     def test_a_list_is_no_tuple_at_any_depth(self):
