@@ -22,7 +22,11 @@ def is_alike(job, plan, one, other):
 
 def alike_pairs(job, plan):
     """Return the ascending list of the pairs (one, other) of moments that are alike."""
-    shown = sights(job, plan)
+    return equal_pairs(sights(job, plan))
+
+
+def equal_pairs(shown):
+    """Return the ascending list of the pairs of numbers of equal items of shown."""
     pairs = [(one, other) for one in range(len(shown)) for other in range(one + 1, len(shown))]
     return [(one, other) for one, other in pairs if shown[one] == shown[other]]
 

@@ -32,7 +32,7 @@ def plan_in_parts(job):
     if not can_be_done(job):
         raise NoPlan()
     if not rings(job):
-        return [], [], _chain_moves(job)
+        return [], [], chain_moves(job)
     if free_places(job):
         return _parts_around(job)
     # What is thrown away never comes back, so this MOVE makes no later moment look like the first.
@@ -41,10 +41,20 @@ def plan_in_parts(job):
     return [away] + ahead, between, behind
 
 
-def _chain_moves(job):
+def chain_moves(job):
     """List the MOVES of the boxes in CHAINS, in each one the last box first."""
     goals = goals_of(job)
     return [(box, goals[box]) for row in chains(job) for box in reversed(row)]
+
+
+def ways_to_room(job):
+    """List for each place that CHAINS or nothing need to be free the pair of it and the MOVES that free it."""
+    goals = goals_of(job)
+    found = [(place, []) for place in free_places(job)]
+    for row in chains(job):
+        for at in reversed(range(len(row))):
+            found.append((row[at], [(box, goals[box]) for box in reversed(row[at:])]))
+    return found
 
 
 def _chain_ends(job):
@@ -56,15 +66,21 @@ def _chain_ends(job):
 def _parts_around(job):
     """List in three parts the MOVES of a fewest PLAN of a JOB with a free place."""
     aside, between = _aside_and_between(job)
+    ahead, behind, _ = nested(rings(job), aside)
+    rest = [move for move in chain_moves(job) if move not in between]
+    return ahead, between, behind + rest
+
+
+def nested(some, aside):
+    """Return the MOVES that open these RINGS, those that close them, and the place that is free between."""
     ahead, behind = [], []
     # Each RING is begun inside the one before it, in the place where that one's first box stood. So
     # all MOVES of a RING can lie between two moments only together with the MOVES in the middle.
-    for ring in rings(job):
-        ahead.append((ring[0], aside))
-        behind = _closing(ring, aside) + behind
+    for ring in some:
+        first, *others = ring_moves(ring, aside)
+        ahead, behind = ahead + [first], others + behind
         aside = ring[0]
-    rest = [move for move in _chain_moves(job) if move not in between]
-    return ahead, between, behind + rest
+    return ahead, behind, aside
 
 
 def _aside_and_between(job):
@@ -76,10 +92,10 @@ def _aside_and_between(job):
     return free_places(job)[0], []
 
 
-def _closing(ring, aside):
-    """List the MOVES that bring home the boxes of the RING when its first one is at aside."""
+def ring_moves(ring, aside):
+    """List the MOVES that bring home the boxes of the RING, its first one being put aside meanwhile."""
     follow = [(ring[at - 1], ring[at]) for at in range(len(ring))]
-    return follow[:1] + list(reversed(follow[2:])) + [(aside, ring[1])]
+    return [(ring[0], aside)] + follow[:1] + list(reversed(follow[2:])) + [(aside, ring[1])]
 
 
 def is_fewest(job, thing):

@@ -19,6 +19,11 @@ def is_name(thing):
     return 1 <= len(thing) <= LONGEST_NAME and all([sign in LETTERS for sign in thing])
 
 
+def is_number(thing):
+    """Tell whether thing is a number."""
+    return isinstance(thing, int) and not isinstance(thing, bool)
+
+
 def is_pair(thing):
     """Tell whether thing is a tuple of two."""
     return isinstance(thing, tuple) and len(thing) == 2

@@ -144,17 +144,40 @@ def full_at(stand):
     return tuple(place for place, _ in stand)
 
 
-def some_plan_is_readable(job, stand=None, seen=()):
-    """Whether some way from the STAND to the end shows no SIGHT twice and none of those seen."""
+def kinds_at(kinds):
+    """What shows of a STAND which kind lies where."""
+    kind_of = dict(kinds)
+    return lambda stand: tuple((place, kind_of[box]) for place, box in stand)
+
+
+def some_plan_is_readable(job, show=full_at, stand=None, seen=()):
+    """Whether some way from the STAND to the end shows nothing twice and nothing of what was seen."""
     stand = start_of(job) if stand is None else stand
     if stand == end_of(job):
         return True
-    seen += (full_at(stand),)
-    # All ways end with this SIGHT: it spares a search through a great many of them.
-    if full_at(end_of(job)) in seen:
+    seen += (show(stand),)
+    # All ways end with what is shown there: it spares a search through a great many of them.
+    if show(end_of(job)) in seen:
         return False
-    return any(full_at(other) not in seen and some_plan_is_readable(job, other, seen)
+    return any(show(other) not in seen and some_plan_is_readable(job, show, other, seen)
                for _, other in moves_from(job, stand))
+
+
+def follow(job, rule, show=full_at):
+    """By the words of the document: the MOVES, what is seen, and how it ends."""
+    told, stand, moves = dict(rule), start_of(job), []
+    seen = [show(stand)]
+    while seen[-1] in told:
+        if seen.count(seen[-1]) > 1:
+            return tuple(moves), seen, "round"
+        ways = dict(moves_from(job, stand))
+        move = told[seen[-1]]
+        if move not in ways:
+            return tuple(moves), seen, "stuck"
+        moves.append(move)
+        stand = ways[move]
+        seen.append(show(stand))
+    return tuple(moves), seen, "right" if stand == end_of(job) else "elsewhere"
 
 
 def stands_behind(job, plan):
@@ -260,6 +283,15 @@ def as_lists(value):
 def has_list(value):
     """Whether there is a list in the value, at any depth."""
     return isinstance(value, list) or isinstance(value, tuple) and any([has_list(item) for item in value])
+
+
+def with_one_list(value):
+    """The value with one of its tuples, at whatever depth, as a list."""
+    if isinstance(value, tuple):
+        yield list(value)
+        for at, item in enumerate(value):
+            for other in with_one_list(item):
+                yield value[:at] + (other,) + value[at + 1:]
 
 
 def bent(value):

@@ -5,9 +5,10 @@ import importlib
 import inspect
 import unittest
 
-from namesalone import alike, counts, fences, fewest, jobs, moves, rules
+from namesalone import alike, counts, fences, fewest, jobs, kinds, looks, moves, rules, sizes, swaps
 from namesalone.errors import Impossible, NoName, NoNumber, NoPlan, NoRule
-from tests.support import (FAR, GREAT_JOBS, JOB, PLAN, SCRAP, STRANGE, STUCK, as_lists, has_list)
+from tests.support import (FAR, GREAT_JOBS, JOB, LONE, PLAN, SCRAP, STRANGE, STUCK, as_lists, has_list,
+                           with_one_list)
 
 STAND = (("a", "a"), ("d", "d"), ("t", "c"))
 BEHIND = (("b", "a"), ("d", "d"), ("t", "c"))
@@ -17,6 +18,17 @@ RULE = ((("a", "c", "d"), ("c", "t")), (("a", "d", "t"), ("a", "b")), (("b",), (
         (("b", "c", "t"), ("t", "d")), (("b", "d", "t"), ("d", "c")))
 STEPS = (("c", "t"), "|", ("a", "b"), "|", ("d", "c"), ("t", "d"))
 LESS = STEPS[:3] + STEPS[4:]
+# KINDS that leave a RING of JOB silent, those that leave none of LONE so, and a RULE BY KINDS for the latter.
+KINDS = (("a", "red"), ("c", "blue"), ("d", "blue"))
+ODD = (("c", "blue"), ("d", "red"))
+BY_KINDS = ((ODD, ("c", "t")), ((("c", "red"), ("t", "blue")), ("t", "d")), ((("d", "red"), ("t", "blue")), ("d", "c")))
+TREE = ("c", ("a", 0, ("d", 4, 3)), ("a", 1, 2))
+SWAPS = (("swap", "c", "d"), ("a", "b"))
+# SIZES by which both RINGS of TWO open, and such by which one does.
+TWO = (("c", "d", "e", "f", "t"), (("c", "d"), ("d", "c"), ("e", "f"), ("f", "e")))
+SIZES = ((("c", 2), ("d", 2), ("e", 3), ("f", 3), ("t", 1)), (("c", 1), ("d", 2), ("e", 2), ("f", 3)))
+TIGHT = (SIZES[0][:2] + (("e", 5), ("f", 5), ("t", 1)), SIZES[1][:2] + (("e", 4), ("f", 5)))
+NESTED = (("c", "t"), ("d", "c"), ("e", "d"), ("f", "e"), ("d", "f"), ("t", "d"))
 
 # Each function with a call of it, by the names of the interface, in their order.
 CALLS = [
@@ -88,6 +100,45 @@ CALLS = [
     (fences.fewest_fences, {"job": JOB}),
     (fences.a_fenced, {"job": JOB}),
     (fences.fences_for, {"job": JOB, "plan": PLAN}),
+    (kinds.is_kinds, {"job": JOB, "thing": KINDS}),
+    (kinds.silent_rings, {"job": JOB, "kinds": KINDS}),
+    (kinds.sights_by, {"job": JOB, "kinds": KINDS, "plan": BAD}),
+    (kinds.is_readable_by, {"job": JOB, "kinds": KINDS, "plan": BAD}),
+    (kinds.first_alike_by, {"job": JOB, "kinds": KINDS, "plan": BAD}),
+    (kinds.has_rule_by, {"job": (JOB[0][:4], JOB[1]), "kinds": KINDS}),
+    (kinds.rule_by, {"job": JOB, "kinds": KINDS, "plan": PLAN}),
+    (kinds.a_plan_by, {"job": LONE, "kinds": ODD}),
+    (kinds.is_rule_by, {"job": LONE, "kinds": ODD, "thing": BY_KINDS}),
+    (kinds.painted, {"job": JOB, "box": "c"}),
+    (kinds.to_paint, {"job": LONE}),
+    (looks.moments_with, {"job": JOB, "plan": PLAN, "place": "b"}),
+    (looks.is_watch, {"job": JOB, "plan": PLAN, "some": ("a", "c", "d")}),
+    (looks.watch, {"job": JOB, "plan": PLAN}),
+    (looks.fewest_looks, {"job": JOB, "plan": PLAN}),
+    (looks.a_tree, {"job": JOB, "plan": PLAN}),
+    (looks.is_tree, {"job": JOB, "plan": PLAN, "thing": TREE}),
+    (looks.moment_by, {"tree": TREE, "sight": ("b", "c", "t")}),
+    (looks.tree_depth, {"tree": TREE}),
+    (swaps.step_after, {"job": JOB, "stand": STAND, "step": ("swap", "a", "t")}),
+    (swaps.are_steps, {"job": JOB, "thing": SWAPS}),
+    (swaps.how_many_swaps, {"steps": SWAPS}),
+    (swaps.fewest_steps, {"job": JOB}),
+    (swaps.a_few_steps, {"job": JOB}),
+    (swaps.are_fewest_steps, {"job": JOB, "thing": SWAPS}),
+    (swaps.fewest_steps_with, {"job": JOB, "many": 0}),
+    (swaps.some_steps_with, {"job": JOB, "many": 1}),
+    (swaps.swaps_for, {"job": JOB, "number": 3}),
+    (swaps.blind_steps, {"job": JOB, "steps": SWAPS}),
+    (swaps.blind_steps_by, {"job": JOB, "kinds": KINDS, "steps": SWAPS}),
+    (sizes.is_sizes, {"job": TWO, "thing": SIZES}),
+    (sizes.fits, {"job": TWO, "sizes": TIGHT, "box": "e", "place": "c"}),
+    (sizes.hole_of, {"job": TWO, "sizes": SIZES}),
+    (sizes.opening, {"job": TWO, "sizes": SIZES}),
+    (sizes.shut_rings, {"job": TWO, "sizes": TIGHT}),
+    (sizes.can_be_done_by, {"job": TWO, "sizes": SIZES}),
+    (sizes.a_plan_by_sizes, {"job": TWO, "sizes": SIZES}),
+    (sizes.is_plan_by_sizes, {"job": TWO, "sizes": SIZES, "thing": NESTED}),
+    (sizes.place_needed, {"job": TWO, "sizes": TIGHT}),
 ]
 
 # Calls that raise, with the error and what it keeps.
@@ -110,10 +161,23 @@ FAILURES = [
     (counts.nth_plan, {"job": JOB, "number": 12}, NoNumber, {"number": 12}),
     (counts.nth_readable, {"job": JOB, "number": -10 ** 40}, NoNumber, {"number": -10 ** 40}),
     (fences.a_fenced, {"job": STUCK}, NoRule, {}),
+    (kinds.a_plan_by, {"job": LONE, "kinds": (("c", "x"), ("d", "x"))}, NoRule, {}),
+    (kinds.rule_by, {"job": JOB, "kinds": KINDS, "plan": BAD}, NoRule, {}),
+    (kinds.painted, {"job": JOB, "box": "b"}, NoName, {"name": "b"}),
+    (kinds.to_paint, {"job": STUCK}, NoPlan, {}),
+    (looks.moments_with, {"job": JOB, "plan": PLAN, "place": "x"}, NoName, {"name": "x"}),
+    (swaps.step_after, {"job": JOB, "stand": STAND, "step": ("swap", "a", "b")}, Impossible,
+     {"move": ("swap", "a", "b")}),
+    (swaps.step_after, {"job": JOB, "stand": STAND, "step": ("a", None)}, Impossible, {"move": ("a", None)}),
+    (swaps.some_steps_with, {"job": STUCK, "many": 0}, NoPlan, {}),
+    (sizes.fits, {"job": TWO, "sizes": SIZES, "box": "t", "place": "x"}, NoName, {"name": "t"}),
+    (sizes.fits, {"job": TWO, "sizes": SIZES, "box": "c", "place": "x"}, NoName, {"name": "x"}),
+    (sizes.a_plan_by_sizes, {"job": TWO, "sizes": TIGHT}, NoPlan, {}),
 ]
 
 LISTS = ("all_possible", "alike_pairs", "unseen", "lasting", "stands_by")
-FILES = {"jobs": 12, "moves": 14, "fewest": 6, "alike": 10, "rules": 10, "counts": 7, "fences": 9}
+FILES = {"jobs": 12, "moves": 14, "fewest": 6, "alike": 10, "rules": 10, "counts": 7, "fences": 9, "kinds": 11,
+         "looks": 8, "swaps": 11, "sizes": 9}
 
 
 def listed(values):
@@ -222,6 +286,13 @@ class AnyThing(unittest.TestCase):
                 self.assertIs(fewest.is_fewest(JOB, thing), False)
                 self.assertIs(rules.is_rule(JOB, thing), False)
                 self.assertIs(fences.is_fenced(JOB, thing), False)
+                self.assertIs(kinds.is_kinds(JOB, thing), False)
+                self.assertIs(kinds.is_rule_by(JOB, KINDS, thing), False)
+                self.assertIs(looks.is_tree(JOB, PLAN, thing), False)
+                self.assertIs(swaps.are_steps(JOB, thing), False)
+                self.assertIs(swaps.are_fewest_steps(JOB, thing), False)
+                self.assertIs(sizes.is_sizes(JOB, thing), False)
+                self.assertIs(sizes.is_plan_by_sizes(TWO, SIZES, thing), False)
                 self.assertIs(jobs.is_job(thing), False)
 
     def test_a_list_is_no_tuple_at_any_depth(self):
@@ -244,15 +315,6 @@ class AnyThing(unittest.TestCase):
         self.assertIs(moves.is_plan(JOB, turn + PLAN), True)
         self.assertIs(moves.is_plan(JOB, turn), False)
         self.assertIs(fewest.is_fewest(JOB, turn + PLAN), False)
-
-
-def with_one_list(value):
-    """The value with one of its tuples, at whatever depth, as a list."""
-    if isinstance(value, tuple):
-        yield list(value)
-        for at, item in enumerate(value):
-            for other in with_one_list(item):
-                yield value[:at] + (other,) + value[at + 1:]
 
 
 if __name__ == "__main__":

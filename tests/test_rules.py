@@ -10,30 +10,13 @@ from namesalone.jobs import chains, free_places, rings, thrown, with_places
 from namesalone.rules import (a_rule, followed, has_rule, is_rule, move_at, places_needed, rule_of, seen_at, unseen,
                               why_none)
 from tests.support import (EMPTY, FAR, GREAT_JOBS, JOB, LONE, PLAN, SCRAP, STRANGE, STUCK, WIDER_JOBS, as_lists, bent,
-                           end_of, far_from_end, full_at, job_of, moves_from, shows_no_sight_twice, sights_shown,
+                           end_of, far_from_end, follow, full_at, job_of, shows_no_sight_twice, sights_shown,
                            small_jobs, some_plan_is_readable, start_of, walked_plan)
 
 RULE = ((("a", "c", "d"), ("c", "t")), (("a", "d", "t"), ("a", "b")), (("b", "c", "t"), ("t", "d")),
         (("b", "d", "t"), ("d", "c")))
 ONE = (("a", "b"), (("a", "b"),))
 SEARCHED = list(small_jobs()) + list(WIDER_JOBS) + [JOB, FAR]
-
-
-def follow(job, rule):
-    """By the words of the document: the MOVES, the SIGHTS seen, and how it ends."""
-    told, stand, moves = dict(rule), start_of(job), []
-    seen = [full_at(stand)]
-    while seen[-1] in told:
-        if seen.count(seen[-1]) > 1:
-            return tuple(moves), seen, "round"
-        ways = dict(moves_from(job, stand))
-        move = told[seen[-1]]
-        if move not in ways:
-            return tuple(moves), seen, "stuck"
-        moves.append(move)
-        stand = ways[move]
-        seen.append(full_at(stand))
-    return tuple(moves), seen, "right" if stand == end_of(job) else "elsewhere"
 
 
 def small_rules(job, most):
