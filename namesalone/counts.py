@@ -17,21 +17,21 @@ class Ways:
     """
 
     def __init__(self, job, only_readable):
-        self.job = job
+        self.given = job
         self.only_readable = only_readable
         self.ring_with = {box: ring for ring in rings(job) for box in ring}
         self.known = {}
 
     def start(self):
         """Return the spot at which all ways begin."""
-        return first_stand(self.job), ()
+        return first_stand(self.given), ()
 
     def steps(self, spot):
         """List for each MOVE that can come next, in ascending order, the pair of it and the spot behind."""
         stand = spot[0]
         found = []
-        for move in first_moves(left_job(self.job, stand)):
-            behind, barred = after(self.job, stand, move), self.barred_behind(spot, move)
+        for move in first_moves(left_job(self.given, stand)):
+            behind, barred = after(self.given, stand, move), self.barred_behind(spot, move)
             if sight_of(behind) not in [sight_of(ahead) for ahead in barred]:
                 found.append((move, (behind, barred)))
         return found
@@ -39,7 +39,7 @@ class Ways:
     def barred_behind(self, spot, move):
         """Return the STANDS whose SIGHTS must not come again if this MOVE is made at the spot."""
         stand, barred = spot
-        ring = self.ring_with.get(what_is_at(self.job, stand, move[0]))
+        ring = self.ring_with.get(what_is_at(self.given, stand, move[0]))
         if not self.only_readable or ring is None:
             return ()
         # Moments are alike only if the MOVES between them are those of RINGS, all of each of them. So a
@@ -55,14 +55,14 @@ class Ways:
     def sum_of(self, spot):
         """Return how many ways lead from a spot that is not yet known to the end."""
         stand, barred = spot
-        left = left_job(self.job, stand)
+        left = left_job(self.given, stand)
         if not rings(left) and not barred:
             return _interleavings([len(row) for row in chains(left)])
         return sum([self.many(behind) for _, behind in self.steps(spot)])
 
     def in_all(self):
         """Return how many ways there are."""
-        return self.many(self.start()) if can_be_done(self.job) else 0
+        return self.many(self.start()) if can_be_done(self.given) else 0
 
 
 def _is_whole(stand, ring):

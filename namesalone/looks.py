@@ -32,7 +32,7 @@ def watch(job, plan):
         for row in some:
             if _tell_apart(shown, row):
                 return row
-        some = [row + (place,) for row in some for place in places if row == () or row[-1] < place]
+        some = [less + (place,) for less in some for place in places if less == () or less[-1] < place]
     return None
 
 
@@ -54,7 +54,7 @@ class Looker:
             return 0, group[0]
         if group not in self.known:
             found = [self.best_with(place, group) for place in self.places]
-            self.known[group] = min([row for row in found if row is not None], key=lambda best: best[0], default=None)
+            self.known[group] = min([row for row in found if row is not None], key=lambda pair: pair[0], default=None)
         return self.known[group]
 
     def best_with(self, place, group):

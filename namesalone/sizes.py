@@ -128,8 +128,10 @@ def is_plan_by_sizes(job, sizes, thing):
     """Tell whether thing is a PLAN by sizes, of however many MOVES."""
     if not is_plan(job, thing):
         return False
-    ways = zip(boxes_moved(job, thing), thing)
-    return all([move[1] is None or fits(job, sizes, box, move[1]) for box, move in ways])
+    for box, move in zip(boxes_moved(job, thing), thing):
+        if move[1] is not None and not fits(job, sizes, box, move[1]):
+            return False
+    return True
 
 
 def place_needed(job, sizes):

@@ -1,6 +1,6 @@
 """STEPS: MOVES, and exchanges of the boxes at two places in one."""
 
-from namesalone.errors import Impossible, NoPlan
+from namesalone.errors import Impossible
 from namesalone.fewest import a_plan, can_be_done, fewest_moves
 from namesalone.jobs import boxes, rings, staying
 from namesalone.kinds import sight_by
@@ -11,10 +11,10 @@ SWAP = "swap"
 
 
 def _is_step(thing):
-    """Tell whether thing is a MOVE or an exchange, of any NAMEs."""
+    """Tell whether thing is a MOVE, or an exchange of places in whichever order."""
     if not isinstance(thing, tuple) or len(thing) != 3:
         return is_way(thing)
-    return thing[0] == SWAP and is_name_pair(thing[1:]) and thing[1] < thing[2]
+    return thing[0] == SWAP and is_name_pair(thing[1:])
 
 
 def _allows(job, stand, step):
@@ -103,8 +103,7 @@ def fewest_steps_with(job, many):
 
 def some_steps_with(job, many):
     """Return STEPS, as few as can be with at most so many exchanges."""
-    if fewest_steps_with(job, many) is None:
-        raise NoPlan()
+    # Where no MOVE is ever possible, there is a PLAN for the rest only if no RING is left.
     return _steps_by(job, _swapped_with(job, many))
 
 

@@ -7,7 +7,8 @@ import unittest
 
 from namesalone import errors
 
-FILES = ("errors", "jobs", "moves", "fewest", "alike", "rules", "counts", "fences", "kinds", "looks", "swaps", "sizes")
+FILES = ("errors", "jobs", "moves", "fewest", "alike", "rules", "counts", "fences", "kinds", "looks", "swaps", "sizes",
+         "lists", "board", "texts", "desk")
 
 
 def names_of_package():
@@ -36,7 +37,7 @@ class Examples(unittest.TestCase):
     def test_each_as_it_stands_in_the_document(self):
         space = names_of_package()
         examples = read_examples()
-        self.assertGreater(len(examples), 80)
+        self.assertGreater(len(examples), 110)
         for put, out in examples:
             with self.subTest(put):
                 self.check(space, put, out)

@@ -5,8 +5,10 @@ import importlib
 import inspect
 import unittest
 
-from namesalone import alike, counts, fences, fewest, jobs, kinds, looks, moves, rules, sizes, swaps
-from namesalone.errors import Impossible, NoName, NoNumber, NoPlan, NoRule
+from namesalone import (alike, board, counts, desk, errors, fences, fewest, jobs, kinds, lists, looks, moves, rules,
+                        sizes,
+                        swaps, texts)
+from namesalone.errors import BadLine, BadText, Impossible, NoName, NoNumber, NoPlan, NoRule
 from tests.support import (FAR, GREAT_JOBS, JOB, LONE, PLAN, SCRAP, STRANGE, STUCK, as_lists, has_list,
                            with_one_list)
 
@@ -139,6 +141,25 @@ CALLS = [
     (sizes.a_plan_by_sizes, {"job": TWO, "sizes": SIZES}),
     (sizes.is_plan_by_sizes, {"job": TWO, "sizes": SIZES, "thing": NESTED}),
     (sizes.place_needed, {"job": TWO, "sizes": TIGHT}),
+    (lists.is_list, {"thing": "a..c>b..d +t"}),
+    (lists.list_read, {"text": "a>b c>d d>c +t"}),
+    (lists.list_text, {"job": FAR}),
+    (lists.spread, {"text": "+t pa..pc>qa..qc z>-"}),
+    (lists.range_names, {"first": "ma", "last": "mc"}),
+    (texts.move_text, {"move": ("z", None)}),
+    (texts.job_text, {"job": FAR}),
+    (texts.plan_text, {"plan": PLAN}),
+    (texts.sight_text, {"sight": ("a", "c")}),
+    (texts.stand_text, {"stand": STAND}),
+    (texts.rule_text, {"rule": RULE}),
+    (texts.move_read, {"text": "z>-"}),
+    (texts.job_read, {"text": "c d z | c>d d>c z>-"}),
+    (texts.plan_read, {"text": "c>t, z>-"}),
+    (texts.sight_read, {"text": "a c"}),
+    (texts.stand_read, {"text": "a=a t=c"}),
+    (texts.rule_read, {"text": "a c d: c>t\na d t: a>b"}),
+    (desk.is_request, {"thing": "move a b"}),
+    (desk.replies, {"job": JOB, "text": "left\nmove c t\nsight\nthrow a"}),
 ]
 
 # Calls that raise, with the error and what it keeps.
@@ -173,11 +194,21 @@ FAILURES = [
     (sizes.fits, {"job": TWO, "sizes": SIZES, "box": "t", "place": "x"}, NoName, {"name": "t"}),
     (sizes.fits, {"job": TWO, "sizes": SIZES, "box": "c", "place": "x"}, NoName, {"name": "x"}),
     (sizes.a_plan_by_sizes, {"job": TWO, "sizes": TIGHT}, NoPlan, {}),
+    (lists.list_read, {"text": "a>c b>c"}, BadText, {}),
+    (lists.spread, {"text": "a..c>x"}, BadText, {}),
+    (lists.range_names, {"first": "b", "last": "b"}, BadText, {}),
+    (texts.move_read, {"text": "a"}, BadText, {}),
+    (texts.job_read, {"text": "a b | a>c"}, BadText, {}),
+    (texts.plan_read, {"text": ""}, BadText, {}),
+    (texts.sight_read, {"text": "b a"}, BadText, {}),
+    (texts.stand_read, {"text": "a=b c=b"}, BadText, {}),
+    (texts.rule_read, {"text": "a c: a>b\na b: c>d"}, BadLine, {"number": 1}),
+    (desk.replies, {"job": JOB, "text": "many\nmove zz a\nlook"}, BadLine, {"number": 2}),
 ]
 
-LISTS = ("all_possible", "alike_pairs", "unseen", "lasting", "stands_by")
+LISTS = ("all_possible", "alike_pairs", "unseen", "lasting", "stands_by", "replies")
 FILES = {"jobs": 12, "moves": 14, "fewest": 6, "alike": 10, "rules": 10, "counts": 7, "fences": 9, "kinds": 11,
-         "looks": 8, "swaps": 11, "sizes": 9}
+         "looks": 8, "swaps": 11, "sizes": 9, "lists": 5, "texts": 12, "desk": 2}
 
 
 def listed(values):
@@ -201,6 +232,14 @@ class Interface(unittest.TestCase):
             module = importlib.import_module("namesalone." + file)
             for name in names:
                 self.assertTrue(inspect.isfunction(getattr(module, name)), name)
+
+    def test_the_class_and_the_errors_are_defined_in_their_own_files(self):
+        self.assertTrue(inspect.isclass(board.Board))
+        self.assertEqual(board.Board.__module__, "namesalone.board")
+        found = {name: own.__bases__ for name, own in vars(errors).items() if inspect.isclass(own)}
+        self.assertEqual(found, {**{name: (LookupError,) for name in ("NoName", "NoNumber", "NothingDone")},
+                                 **{name: (ValueError,) for name in ("Impossible", "NoPlan", "NoRule", "BadText",
+                                                                     "BadLine")}})
 
     def test_arguments_have_the_names_of_the_interface(self):
         for own, values in CALLS:
@@ -293,6 +332,8 @@ class AnyThing(unittest.TestCase):
                 self.assertIs(swaps.are_fewest_steps(JOB, thing), False)
                 self.assertIs(sizes.is_sizes(JOB, thing), False)
                 self.assertIs(sizes.is_plan_by_sizes(TWO, SIZES, thing), False)
+                self.assertIs(lists.is_list(thing), thing in ("zz", "a b"))
+                self.assertIs(desk.is_request(thing), False)
                 self.assertIs(jobs.is_job(thing), False)
 
     def test_a_list_is_no_tuple_at_any_depth(self):

@@ -20,7 +20,8 @@ TURN = (("c", "t"), ("d", "c"), ("t", "d"))
 RULE = ((ODD, ("c", "t")), ((("c", "red"), ("t", "blue")), ("t", "d")), ((("d", "red"), ("t", "blue")), ("d", "c")))
 # JOBS with one place that is free or becomes so: whether there is a rule hangs on the kinds alone.
 ONE_ROOM = tuple(job_of(*row, names="abcdefgh") for row in (
-    ((2, 2), ((1, True),), 0, 0), ((2, 3), ((1, True),), 1, 0), ((2, 2), ((2, False),), 0, 0), ((2, 2), ((2, True),), 0, 0),
+    ((2, 2), ((1, True),), 0, 0), ((2, 3), ((1, True),), 1, 0), ((2, 2), ((2, False),), 0, 0),
+                                                            ((2, 2), ((2, True),), 0, 0),
     ((2, 2), (), 0, 1), ((2, 3), (), 1, 1), ((2, 2, 2), (), 0, 1), ((3, 2), ((1, False),), 0, 0),
 ))
 MORE_ROOM = tuple(job_of(*row, names="abcdefgh") for row in (
@@ -280,7 +281,8 @@ class APlanBy(unittest.TestCase):
 
     def test_where_the_one_free_place_comes_by_throwing_away(self):
         job = job_of((2, 2), ((1, True),), 0, 0, names="abcde")
-        self.assertEqual(job, (("a", "b", "c", "d", "e"), (("a", "b"), ("b", "a"), ("c", "d"), ("d", "c"), ("e", None))))
+        self.assertEqual(job, (("a", "b", "c", "d", "e"), (("a", "b"), ("b", "a"), ("c", "d"), ("d", "c"),
+                                                           ("e", None))))
         plan = a_plan_by(job, (("a", "x"), ("b", "x"), ("c", "x"), ("d", "y"), ("e", "x")))
         self.assertEqual(plan[0], ("e", None))
         self.assertEqual(len(plan), 7)
@@ -366,7 +368,8 @@ class IsRuleBy(unittest.TestCase):
         self.assertIs(is_rule_by(LONE, (("c", "red"), ("d", "blue")), RULE), False)
 
     def test_pairs_that_are_never_seen(self):
-        rows = ((((("c", "blue"),), ("c", None)), True), (((), ("t", "t")), True), (((("t", "nowhere"),), ("d", "c")), True),
+        rows = ((((("c", "blue"),), ("c", None)), True), (((), ("t", "t")), True),
+                (((("t", "nowhere"),), ("d", "c")), True),
                 (((("x", "blue"),), ("c", "t")), False), (((("c", "blue"),), ("c", "x")), False),
                 (((("c", "blue"),), ("x", None)), False), (((("c", "Blue"),), ("c", "t")), False),
                 (((("c", None),), ("c", "t")), False), (((("d", "red"), ("c", "blue")), ("c", "t")), False),
@@ -433,7 +436,8 @@ class Painting(unittest.TestCase):
             else:
                 enough = [box for row in rings_of(job) for box in row if has_rule_by(job, painted(job, box))]
                 self.assertEqual(to_paint(job), min(enough), job)
-                self.assertIs(is_readable_by(job, painted(job, min(enough)), a_plan_by(job, painted(job, min(enough)))), True)
+                self.assertIs(is_readable_by(job, painted(job, min(enough)),
+                                             a_plan_by(job, painted(job, min(enough)))), True)
                 found.append("paint")
         for word in ("no plan", "no need", "paint"):
             self.assertGreater(found.count(word), 15)

@@ -7,7 +7,8 @@ from random import Random
 
 from namesalone.errors import NoName
 from namesalone.looks import a_tree, fewest_looks, is_tree, is_watch, moment_by, moments_with, tree_depth, watch
-from tests.support import (EMPTY, FAR, JOB, LONE, PLAN, SCRAP, STRANGE, as_lists, bent, drawn_plan, far_from_end, job_of,
+from tests.support import (EMPTY, FAR, JOB, LONE, PLAN, SCRAP, STRANGE, as_lists, bent, drawn_plan, far_from_end,
+                           job_of,
                            shows_no_sight_twice, sights_shown, small_jobs, start_of, walked_plan, with_one_list)
 
 TREE = ("c", ("a", 0, ("d", 4, 3)), ("a", 1, 2))
@@ -17,7 +18,8 @@ NAMES12 = tuple("abcdefghijkl")
 # JOBS of 12 places whose fewest PLANS have up to 9 MOVES.
 WIDE = tuple(job_of(*row, names=NAMES12) for row in (
     ((), ((9, False),), 0, 2), ((), ((9, True),), 2, 1), ((2, 2), ((3, False),), 2, 2), ((3, 2), ((2, True),), 3, 2),
-    ((2,), ((1, False), (2, True)), 2, 2), ((), ((1, True),) * 9, 3, 0), ((2, 2, 2), (), 2, 4), ((7,), ((1, False),), 1, 2),
+    ((2,), ((1, False), (2, True)), 2, 2), ((), ((1, True),) * 9, 3, 0), ((2, 2, 2), (), 2, 4),
+                                                     ((7,), ((1, False),), 1, 2),
 ))
 
 

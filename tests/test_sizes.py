@@ -189,7 +189,8 @@ class Fits(unittest.TestCase):
                     self.assertIs(fits(job, sizes, box, place), number <= other)
 
     def test_no_box_and_no_place(self):
-        for box, place, name in (("t", "c", "t"), ("zz", "c", "zz"), ("c", "zz", "zz"), ("t", "zz", "t"), ("x", "y", "x"),
+        for box, place, name in (("t", "c", "t"), ("zz", "c", "zz"), ("c", "zz", "zz"), ("t", "zz", "t"),
+                                 ("x", "y", "x"),
                                  ("c", "x", "x")):
             with self.assertRaises(NoName) as held:
                 fits(TWO, SIZES, box, place)

@@ -115,7 +115,8 @@ class StepAfter(unittest.TestCase):
     def test_exchanges(self):
         stand = (("a", "a"), ("d", "d"), ("t", "c"))
         self.assertEqual(step_after(JOB, stand, ("swap", "a", "t")), (("a", "c"), ("d", "d"), ("t", "a")))
-        for step in (("swap", "t", "a"), ("swap", "a", "a"), ("swap", "a", "b"), ("swap", "b", "c"), ("swap", "a", "x")):
+        for step in (("swap", "t", "a"), ("swap", "a", "a"), ("swap", "a", "b"), ("swap", "b", "c"),
+                     ("swap", "a", "x")):
             for put in (step, list(step)):
                 with self.assertRaises(Impossible) as held:
                     step_after(JOB, stand, put)
@@ -200,7 +201,8 @@ class AreSteps(unittest.TestCase):
         self.assertEqual(how_many_swaps(turn), 400)
 
     def test_how_many_swaps(self):
-        for steps, many in (((), 0), (SWAPPED, 1), (PLAN, 0), (PLAN + SWAPPED + PLAN + SWAPPED, 2), ((("z", None),), 0)):
+        for steps, many in (((), 0), (SWAPPED, 1), (PLAN, 0), (PLAN + SWAPPED + PLAN + SWAPPED, 2),
+                            ((("z", None),), 0)):
             self.assertEqual(how_many_swaps(steps), many)
             self.assertEqual(how_many_swaps(as_lists(steps)), many)
 
